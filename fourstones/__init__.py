@@ -1,0 +1,1 @@
+"""Fourstones: a mouse without a memory and four stones walk every floor."""
