@@ -54,11 +54,12 @@ def grown_floor(seed, many, spread=1):
 
 
 def bored_floor(seed, width, height, holes):
-    """A full floor in which cells were taken away as long as the rest hangs together."""
+    """A full floor in which cells were taken away as long as the rest hangs together; its edge stays if seed is odd."""
     chance = random.Random(seed)
     cells = {(x, y) for x in range(width) for y in range(height)}
+    inner = [(x, y) for x, y in sorted(cells) if 0 < x < width - 1 and 0 < y < height - 1]
     for _ in range(holes):
-        rest = cells - {chance.choice(sorted(cells))}
+        rest = cells - {chance.choice(inner if seed % 2 else sorted(cells))}
         if rest and len(pieces_by(sorted(rest), rest, corners=False)) == 1:
             cells = rest
     return Floor(sorted(cells))
@@ -197,9 +198,10 @@ def some_floors():
         "#### #..# ####", "##### #.#.# #####", "###. #.## ##.# .###", "#### #.## ##.# ####", ".### #.## ####",
         "####### #..#..# #.###.# #.#.#.# #######", "##### #..## #.### ##..# #####", "##### #.#.# #...# #####",
         "####### #.....# #.###.# #.#.#.# #.###.# #...#.# #######", "###### #....# #.##.# #.##.# #..#.# ######",
+        "###### ##.#.# ####.# #....# ######",
         "######### #.......# #.#####.# #.#...### #.#.###.# #.#...#.# #.#####.# #.......# #########",
     )
     floors = [Floor.read(text) for text in texts]
     floors += [grown_floor(seed, 5 + 4 * seed, 1 if seed % 2 else 0.4) for seed in range(12)]
-    floors += [bored_floor(seed, 4 + seed % 6, 4 + seed % 4, 3 * seed) for seed in range(16)]
+    floors += [bored_floor(seed, 4 + seed % 6, 4 + seed % 4, 2 * seed) for seed in range(16)]
     return floors
