@@ -8,6 +8,11 @@ def fixed(value):
     return value
 
 
+def is_named(paper, name):
+    """Whether the class of the paper has this name: a class below a class of papers is another one."""
+    return paper.__class__.__name__ == name
+
+
 def is_same_paper(paper, value):
     """Whether both are of one class, with equal words and parts."""
     if not isinstance(value, Paper):
