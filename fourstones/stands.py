@@ -76,8 +76,7 @@ def looked(stand, line, answer):
 
 def wall_step(floor, stand, line):
     """Looks whether there is a wall at a side."""
-    cell, nose, _, _ = stand
-    return looked(stand, line, floor.near(cell, (nose + line[1]) % 4) is None)
+    return looked(stand, line, floor.near(stand[0], (stand[1] + line[1]) % 4) is None)
 
 
 def here_step(floor, stand, line):

@@ -21,8 +21,12 @@ class Trip:
         self.word = ""
 
     def __eq__(self, other):
-        same = isinstance(other, Trip) and self.mouse == other.mouse and self.floor == other.floor
-        return same and state_of(self) == state_of(other)
+        return (
+            isinstance(other, Trip)
+            and self.mouse == other.mouse
+            and self.floor == other.floor
+            and state_of(self) == state_of(other)
+        )
 
     def advance(self):
         """Makes a step, if the trip is not at its end; returns whether it goes on then."""

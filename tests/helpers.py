@@ -3,6 +3,7 @@
 import random
 
 from fourstones.floors import Floor
+from fourstones.papers import Denial, Paper
 
 # Values that are no floor, no cell, no wall and no integer.
 ODD = (None, True, False, "", "text", "##", b"##", [], (), {}, [None], 1.5, object(), Floor, len)
@@ -21,6 +22,13 @@ def told_error(call, *args, **named):
 def told_error_of(generator, *args, **named):
     """The same for a generator that is asked for its first value."""
     return told_error(lambda: list(generator(*args, **named))[:1])
+
+
+def namesake(name, paper):
+    """A paper of another class that has the name, but the word, the parts and the attributes of this one."""
+    made = type(name, (Denial if isinstance(paper, Denial) else Paper,), {})(paper.word, *paper.parts)
+    vars(made).update(vars(paper))
+    return made
 
 
 def floors_up_to(many):

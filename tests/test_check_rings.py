@@ -11,7 +11,7 @@ from fourstones.floors import Floor
 from fourstones.papers import Denial, Paper
 from fourstones.rims import rim_of
 from fourstones.rings import Ring, ring_of, told_ring
-from helpers import GREAT, ODD, floors_up_to, ring_by_pieces, seen_walls, some_floors, told_error
+from helpers import GREAT, ODD, floors_up_to, namesake, ring_by_pieces, seen_walls, some_floors, told_error
 
 COURT = Floor.read("### #.# ###")
 HOOK = Floor.read("#. ##")
@@ -81,7 +81,7 @@ class CheckRingsTest(unittest.TestCase):
         walls = told_ring(COURT).walls
         others = (
             *ODD, walls, list(walls), Ring, "ring", Paper("ring", walls), Denial("ring", walls), Paper("Ring", walls),
-            BelowRing(walls), (told_ring(COURT),), {"walls": walls}, told_ring(HOOK),
+            BelowRing(walls), namesake("Ring", told_ring(COURT)), (told_ring(COURT),), {"walls": walls}, told_ring(HOOK),
         )
         for value in others:
             self.assertIs(shows_ring(COURT, value), False)

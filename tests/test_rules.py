@@ -19,7 +19,7 @@ BARRED = set(
 )
 STATEMENTS = (
     ast.FunctionDef, ast.ClassDef, ast.ImportFrom, ast.Import, ast.Assign, ast.AugAssign, ast.If, ast.While, ast.For,
-    ast.Return, ast.Break, ast.Continue, ast.Pass, ast.Raise, ast.Expr, ast.Del, ast.Assert,
+    ast.Return, ast.Break, ast.Continue, ast.Pass, ast.Raise, ast.Expr, ast.Delete, ast.Assert,
 )
 
 
