@@ -40,9 +40,9 @@ class Lots:
         self.waiting = list(range(len(self.members)))
         self.waits = [True for _ in self.members]
 
-    def part_all(self):
-        """Parts the lots till there is nothing more to part."""
-        while self.waiting:
+    def part_all(self, most):
+        """Parts the lots till there is nothing more to part, or till these are more than most."""
+        while self.waiting and len(self.members) <= most:
             number = self.waiting.pop()
             self.waits[number] = False
             members = list(self.members[number])
@@ -94,9 +94,11 @@ def lines_come_to(lines, numbers):
     return told
 
 
-def least_lines(lines):
-    """The lines of the least mouse that does the same as one with these lines."""
+def least_lines(lines, most):
+    """The lines of the least mouse that does the same as one with these lines, None if these are more than most."""
     own = lines_come_to(lines, list(range(len(lines))))
     lots = Lots(own)
-    lots.part_all()
+    lots.part_all(most)
+    if len(lots.members) > most:
+        return None
     return lines_come_to(own, lots.numbers)

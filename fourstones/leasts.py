@@ -26,7 +26,7 @@ class Unlike(Denial):
 def least_of(mouse):
     """The mouse with the fewest lines that does the same, its lines in the order in which they are come to."""
     demand_mouse(mouse, "mouse")
-    return Mouse(mouse.stones, least_lines(mouse.lines))
+    return Mouse(mouse.stones, least_lines(mouse.lines, len(mouse.lines)))
 
 
 def demand_two_mice(one, other):

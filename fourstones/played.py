@@ -3,12 +3,13 @@
 from fourstones.begins import demand_walk
 from fourstones.errors import TooMany
 from fourstones.papers import Paper
-from fourstones.script_places import place_behind
+from fourstones.script_places import SILENT, place_behind
 from fourstones.scripts import demand_script
 from fourstones.stands import first_stand, step_along
 
-# The places of a script that are no steps, so that any number of them may be done between two steps.
-SILENT = ("set", "up", "do", "back", "is")
+# The places of a script that are no steps, so that any number of them may be done between two steps: each asking of a
+# `while` is a step, though no line of a mouse does so.
+STEPLESS = ("set", "up", "do", "back", "is")
 
 
 class Play(Paper):
@@ -26,8 +27,6 @@ def done_place(script, floor, stand, flags, backs):
     """What is done at the place of a stand: the stand behind it, the deed, None for none, and the word of the end."""
     cell, nose, at, stones = stand
     row = script.places[at]
-    if row[0] == "ask":
-        return (cell, nose, row[1], stones), None, ""
     if row[0] in SILENT:
         return (cell, nose, place_behind(row, flags, backs), stones), None, ""
     return step_along(floor, stand, row)
@@ -44,7 +43,7 @@ def played(script, floor, cell, side, most):
     stand = first_stand(script.stones, cell, side, script.begin)
     word = ""
     while word == "":
-        if script.places[stand[2]][0] not in SILENT:
+        if script.places[stand[2]][0] not in STEPLESS:
             if steps == most:
                 raise TooMany("steps", most)
             steps += 1

@@ -1,9 +1,11 @@
 """Scripts as tables of places, each of which tells which place is next.
 
-Places of looks, deeds and stops are lines as those of mice. The others are no steps of a mouse: ("set", FLAG, N,
-NEXT), ("up", FLAG, N, NEXT), ("is", FLAG, N, YES, NO), ("do", BEGIN, NEXT), which begins a part, ("back",), which
-ends one, and ("ask", NEXT) ahead of each asking of a `while`.
+Places of looks, deeds and stops are lines as those of mice. The others are silent, as no line of a mouse does so:
+("set", FLAG, N, NEXT), ("up", FLAG, N, NEXT), ("is", FLAG, N, YES, NO), ("do", BEGIN, NEXT), which begins a part,
+("back",), which ends one, and ("ask", NEXT) ahead of each asking of a `while`.
 """
+
+SILENT = ("set", "up", "do", "back", "is", "ask")
 
 
 class Places:
@@ -63,8 +65,10 @@ class Places:
 
 
 def place_behind(row, flags, backs):
-    """The place behind one that is no step; flags tells what each flag is, backs where the begun parts go on."""
+    """The place behind a silent one; flags tells what each flag is, backs where the begun parts go on."""
     kind = row[0]
+    if kind == "ask":
+        return row[1]
     if kind == "back":
         return backs.pop()
     if kind == "do":

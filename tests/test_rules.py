@@ -19,7 +19,7 @@ BARRED = set(
 )
 STATEMENTS = (
     ast.FunctionDef, ast.ClassDef, ast.ImportFrom, ast.Import, ast.Assign, ast.AugAssign, ast.If, ast.While, ast.For,
-    ast.Return, ast.Break, ast.Continue, ast.Pass, ast.Raise, ast.Expr, ast.Delete, ast.Assert,
+    ast.Return, ast.Break, ast.Continue, ast.Pass, ast.Raise, ast.Expr, ast.Delete, ast.Assert, ast.Try,
 )
 
 
@@ -92,6 +92,9 @@ class RulesTest(unittest.TestCase):
             self.assertIsInstance(node, STATEMENTS, path)
         for path, node in self.nodes(ast.FunctionDef):
             self.assertTrue(all(told.id in ("staticmethod", "classmethod") for told in node.decorator_list), path)
+        own = {told.name for told in TREES[PACKAGE / "errors.py"].body if isinstance(told, ast.ClassDef)}
+        for path, node in self.nodes(ast.ExceptHandler):
+            self.assertIn(node.type.id, own, path)
         for path, node in self.nodes(ast.GeneratorExp, ast.Set):
             self.fail((path, node.lineno))
         self.assertEqual(list(self.nodes(ast.Div)), [])
