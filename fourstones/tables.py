@@ -61,8 +61,8 @@ class Unfolding:
 def lines_of(script):
     """The lines of a mouse, of any number, that makes the looks and deeds of the script; line 0 comes first."""
     moments = Unfolding(script)
-    if moments.number_from(script.begin, (0,) * len(script.flags), ()) == ENDLESS:
-        return [("north", 0, 0)]
+    # The first moment that is found has the number 0; if none is, all goes on for ever from the begin.
+    moments.number_from(script.begin, (0,) * len(script.flags), ())
     lines = []
     while len(lines) < len(moments.found):
         lines.append(moments.line_of(moments.found[len(lines)]))
@@ -71,7 +71,8 @@ def lines_of(script):
     lines.append(("north", last, last))
     told = []
     for line in lines:
-        told.append((*head_of(line), *[last if to == ENDLESS else to for to in leads_of(line)]))
+        leads = [last if to == ENDLESS else to for to in leads_of(line)]
+        told.append((*head_of(line), *leads))
     return told
 
 
