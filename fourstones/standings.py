@@ -81,7 +81,7 @@ LEADERS = {
 
 
 def comes_to(standing, line):
-    """The standings to which a mouse at this line comes: for what both answers can be told to, YES first."""
+    """The standings to which a mouse comes from one at this line; where both may be, that of YES is first."""
     word = line[0]
     if word not in LEADERS:
         return led(standing, leads_of(line))
